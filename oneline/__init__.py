@@ -1,0 +1,1 @@
+"""Oneline: many talks over one line of numbers."""
