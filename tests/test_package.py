@@ -11,6 +11,10 @@ INTERFACE = {
     "errors": {"LineError": (), "NoDeed": (), "BadHead": ()},
     "signs": {"text_numbers": (), "text_at": ()},
     "frames": {"framed": (), "Frame": (), "Cutter": ("fed",)},
+    "shelves": {"Shelf": ("put",)},
+    "heads": {"told_head": (), "read_head": ()},
+    "ends": {"End": ("begin", "answer", "say", "grant", "reset", "ask_rank", "leave", "next_frame", "hear", "left",
+                     "waiting")},
 }
 
 
